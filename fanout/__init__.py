@@ -1,0 +1,1 @@
+"""What one call may become, where services call one another."""
