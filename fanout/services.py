@@ -1,4 +1,4 @@
-"""Services that call one another, and how long a call of one lasts at most."""
+"""Services that call one another: how long one call lasts, what it becomes, when it is quiet, at most."""
 
 MOST_SERVICES = 16
 MOST_STEPS = 4
@@ -6,18 +6,24 @@ MOST_LINKS = 4
 MOST_TRIES = 5
 LONGEST = 1000000
 NUMBERS_PER_LINK = 4
+# 2 ** 62, written out: a module's top holds plain values alone.
+FIRST_TOO_LARGE = 4611686018427387904
 
 NOT_THERE = -2
 NOT_ALLOWED = -22
 FULL = -28
 RING = -41
+TOO_LARGE = -75
 
 BEGIN = 0
 SERVICE = 1
 STEP = 2
+TIME = 3
+CALLS = 4
+ALL_OF = 5
 
 # By a call's number: how many numbers it takes in the list, itself and a row's count among them.
-WIDTHS = (1, 2, 3, 2)
+WIDTHS = (1, 2, 3, 2, 3, 2, 2)
 
 
 class Link:
@@ -70,8 +76,8 @@ def numbers_ready(services, order):
     return [s for s in waiting if services[s].calls_only(order)]
 
 
-# Every part of a call's time only grows with the parts within it, so the longest call is the one
-# in which nothing ends early and every try is made.
+# Every part of a call only grows with the parts within it. So the call in which nothing ends early and
+# every try is made is at once the longest, the one that becomes most, and the one that is quiet last.
 def longest_times(services):
     times = {}
     for s in called_first(services):
@@ -82,13 +88,71 @@ def longest_times(services):
 def longest_time(service, times):
     total = service.work
     for links in service.steps:
-        total += max([longest_link(link, times) for link in links])
+        total += longest_step(links, times)
     return total
 
 
-def longest_link(link, times):
-    one_try = min(times[link.whom], link.patience)
-    return link.tries * one_try + (link.tries - 1) * link.pause
+def longest_step(links, times):
+    return max([last_try_start(link, times) + longest_try(link, times) for link in links])
+
+
+def last_try_start(link, times):
+    return (link.tries - 1) * (longest_try(link, times) + link.pause)
+
+
+def longest_try(link, times):
+    return min(times[link.whom], link.patience)
+
+
+# A call that was given up goes on, so every try counts whole, whatever its patience.
+def most_calls(services, counted):
+    counts = {}
+    for s in called_first(services):
+        itself = 1 if s in counted else 0
+        counts[s] = itself + calls_from_steps(services[s], counts)
+    return counts
+
+
+def calls_from_steps(service, counts):
+    total = 0
+    for links in service.steps:
+        total += sum([link.tries * counts[link.whom] for link in links])
+    return total
+
+
+def latest_quiets(services):
+    times = longest_times(services)
+    quiets = {}
+    for s in called_first(services):
+        quiets[s] = latest_quiet(services[s], times, quiets)
+    return quiets
+
+
+# The next step waits for the links alone, not for what they gave up: so any step may be quiet last.
+def latest_quiet(service, times, quiets):
+    over = service.work
+    latest = over
+    for links in service.steps:
+        latest = max(latest, over + latest_quiet_of_step(links, times, quiets))
+        over += longest_step(links, times)
+    return max(latest, over)
+
+
+# Of a link's tries, none is quiet later than the last may be: that one begins last.
+def latest_quiet_of_step(links, times, quiets):
+    return max([last_try_start(link, times) + quiets[link.whom] for link in links])
+
+
+def told_of(s, numbers):
+    if s not in numbers:
+        return [RING]
+    return [0, numbers[s]]
+
+
+def count_told_of(s, counts):
+    if s in counts and counts[s] >= FIRST_TOO_LARGE:
+        return [TOO_LARGE]
+    return told_of(s, counts)
 
 
 class Net:
@@ -124,10 +188,23 @@ class Net:
     def time(self, s):
         if not self.has(s):
             return [NOT_THERE]
-        times = longest_times(self.services)
-        if s not in times:
-            return [RING]
-        return [0, times[s]]
+        return told_of(s, longest_times(self.services))
+
+    def calls(self, s, t):
+        if not self.has(s) or not self.has(t):
+            return [NOT_THERE]
+        return count_told_of(s, most_calls(self.services, [t]))
+
+    def all_of(self, s):
+        if not self.has(s):
+            return [NOT_THERE]
+        everyone = list(range(len(self.services)))
+        return count_told_of(s, most_calls(self.services, everyone))
+
+    def quiet(self, s):
+        if not self.has(s):
+            return [NOT_THERE]
+        return told_of(s, latest_quiets(self.services))
 
     def has(self, s):
         return s < len(self.services)
@@ -147,8 +224,14 @@ def answer_call(net, call):
         return net.service(call[1])
     if call[0] == STEP:
         return net.step(call[1], call[3:])
-    # The table of widths has no other call than time left.
-    return net.time(call[1])
+    if call[0] == TIME:
+        return net.time(call[1])
+    if call[0] == CALLS:
+        return net.calls(call[1], call[2])
+    if call[0] == ALL_OF:
+        return net.all_of(call[1])
+    # The table of widths has no other call than quiet left.
+    return net.quiet(call[1])
 
 
 def answers(calls):

@@ -18,6 +18,19 @@ def time(s):
     return [3, s]
 
 
+def calls_of(s, t):
+    """Asks how many calls of t a call of s becomes."""
+    return [4, s, t]
+
+
+def all_of(s):
+    return [5, s]
+
+
+def quiet(s):
+    return [6, s]
+
+
 def joined(calls):
     return [number for call in calls for number in call]
 
@@ -42,3 +55,8 @@ def ask(*calls):
 
 def last(*calls):
     return ask(*calls)[-1]
+
+
+def asked_behind(calls, asked):
+    """The answers to what is asked behind these calls, the calls' own left out."""
+    return ask(*calls, *asked)[len(calls):]
